@@ -1,0 +1,1 @@
+"""Surepresses: finding out and steering a device in an unknown state."""

@@ -3,6 +3,10 @@
 import copy
 import sys
 
+from surepresses.cases import Case
+from surepresses.devices import Device
+from surepresses.errors import InvalidGoal
+
 
 def lists_in(answer):
     """Return all lists in an answer, itself included, each as often as it stands there."""
@@ -75,3 +79,53 @@ def steps_of(call, *args):
     finally:
         sys.settrace(before)
     return answer, count[0]
+
+
+def goal_case():
+    """Return a case of a device with five states, of which 0, 2 and 3 are possible."""
+    steps = [{"a": (1, ["y"]), "b": (2, [])}, {"a": (4, [])}, {"a": (3, []), "b": (0, ["y"])}, {"b": (3, [])}, {}]
+    return Case(Device(["b", "a"], ["y"], steps), [3, 0, 2])
+
+
+def wrong_goals():
+    """Return tuples that are no goals of that case, in each way that there is."""
+    return [
+        ("",), ("Now",), ("firsts",), ("end",), ("none", [[0, 2, 3]]), ("~", 0, 1), ("groups", [[0, 2, 3]]),
+        ("now", 0), ("first", 2), ("now", 1, 2), ("group",), ("in",), ("group", [[0, 2, 3]], 0), ("in", [0], 10 ** 59),
+        ("group", []), ("group", [[], []]), ("group", [[0, 2]]), ("group", [[0], [1], [3]]),
+        ("group", [[0, 2, 3, 0]]), ("group", [[0, 2], [3, 0]]), ("group", [[0], [2], [3], [], [3]]),
+        ("group", [[0, 2, 3, -1], [2, -1]]), ("in", [5]), ("in", [-1]), ("in", [0, 1, 2, 3, 4, 10 ** 59]),
+    ]
+
+
+def assert_goal_errors(test, call, *others):
+    """A call with that case, a goal and perhaps other arguments raises InvalidGoal for each wrong goal."""
+    for goal in wrong_goals():
+        assert_raises(test, InvalidGoal, goal, call, goal_case(), goal, *others)
+        kept = copy.deepcopy(goal)
+        with test.assertRaises(InvalidGoal) as caught:
+            call(goal_case(), goal, *others)
+        spoil(goal)
+        test.assertEqual(caught.exception.value, kept)
+
+
+def assert_by_name(test, call, *names_and_values):
+    """A call takes all its arguments by name, too."""
+    named = dict(names_and_values)
+    test.assertEqual(call(**named), call(*list(named.values())))
+    backwards = {name: named[name] for name in reversed(list(named))}
+    test.assertEqual(call(**backwards), call(*list(named.values())))
+
+
+def assert_keeps_arguments(test, call, *args):
+    """A call changes no argument and shares no list with one; later changes of them change no later answer."""
+    passed = copy.deepcopy(args)
+    answer = call(*args)
+    test.assertEqual(args, passed)
+    given = {id(place) for place in lists_in(args)}
+    test.assertFalse(given & {id(place) for place in lists_in(answer)})
+    kept = copy.deepcopy(answer)
+    for place in args:
+        spoil(place)
+    test.assertEqual(answer, kept)
+    test.assertEqual(call(*passed), kept)

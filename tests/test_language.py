@@ -124,6 +124,21 @@ class ImportTest(unittest.TestCase):
                     defined.add(inner.targets[0].id)
             self.assertLessEqual(set(names), defined, place)
 
+    def test_library_names_are_only_called(self):
+        for path in files():
+            tree = parsed(path)
+            names = {
+                alias.name for node in tree.body if isinstance(node, ast.ImportFrom) and node.module in LIBRARY
+                for alias in node.names}
+            called = {id(node.func) for node in ast.walk(tree) if isinstance(node, ast.Call) and not node.keywords}
+            for node in ast.walk(tree):
+                if isinstance(node, ast.Name) and node.id in names:
+                    self.assertIn(id(node), called, (path, node.lineno))
+                elif isinstance(node, ast.arg):
+                    self.assertNotIn(node.arg, names, (path, node.lineno))
+                elif isinstance(node, (ast.FunctionDef, ast.ClassDef)):
+                    self.assertNotIn(node.name, names, (path, node.lineno))
+
     def test_no_two_files_import_from_each_other(self):
         leads = {
             path.stem: [

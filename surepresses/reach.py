@@ -62,31 +62,36 @@ def ways_from(belief, goal, moves):
 def explored(case, goal, begin):
     """Return a dict of the ways from each belief that can come from one, no further than the goal."""
     moves = moves_of(case)
+    return explored_by(begin, lambda belief: ways_from(belief, goal, moves))
+
+
+def explored_by(begin, ways_of):
+    """Return a dict of the ways from each belief that can come from one by the ways that a function tells."""
     ways = {}
     waiting = [begin]
     while waiting:
         belief = waiting.pop()
         if belief not in ways:
-            ways[belief] = ways_from(belief, goal, moves)
+            ways[belief] = ways_of(belief)
             waiting.extend([after for _, branches in ways[belief] for _, after in branches])
     return ways
 
 
 def deepest(belief, costs):
-    """Return the depth of a press at a belief, from those of the plans after it."""
-    return 1 + max(costs)
+    """Return the depth of a way from a belief, from those of the plans after its press, none for an end."""
+    return max([1 + spent for spent in costs], default=0)
 
 
 def summed(belief, costs):
-    """Return the total of a press at a belief, from those of the plans after it."""
-    return len(belief) + sum(costs)
+    """Return the total of a way from a belief, from those of the plans after its press, none for an end."""
+    return len(belief) + sum(costs) if costs else 0
 
 
 def least_costs(ways, cost):
     """Return a dict of (least cost, button, branches) for each belief from which there is a right plan.
 
-    Of several buttons with the least cost the first one is taken. The cost of a press is told by a
-    function of its belief and of the costs after it, and is more than each of these.
+    Of several buttons with the least cost the first one is taken. The cost of a way is told by a
+    function of its belief and of the costs after it, none for an end, and is more than each of these.
     """
     known = [(belief, button, branches) for belief in ways for button, branches in ways[belief]]
     lacking = [len(branches) for _, _, branches in known]
@@ -94,7 +99,7 @@ def least_costs(ways, cost):
     found = {}
     # The cheapest way comes first, and no later one costs less: so each belief is settled once,
     # and the cost of a way is told once, when the last belief after it is settled.
-    queue = [(0, number) for number, count in enumerate(lacking) if count == 0]
+    queue = sorted([(cost(known[number][0], []), number) for number, count in enumerate(lacking) if count == 0])
     while queue:
         spent, number = heappop(queue)
         belief, button, branches = known[number]

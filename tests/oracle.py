@@ -155,27 +155,31 @@ class Table:
             self.after[belief] = [list(beliefs.values()) for beliefs in found if beliefs is not None]
 
     def rounds(self, goal, cost):
-        """Return for each number of presses the least cost from the start within this depth, until no cost changes."""
-        costs = {belief: 0 if is_met(goal, belief) else NEVER for belief in self.after}
-        told = [costs[self.model.start]]
+        """Return for each number of presses the least costs within this depth, until no cost changes."""
+        told = [{belief: 0 if is_met(goal, belief) else NEVER for belief in self.after}]
         while True:
+            costs = told[-1]
             better = {
                 belief: min([costs[belief]] + [
                     cost(belief, [costs[after] for after in afters]) for afters in self.after[belief]])
                 for belief in self.after}
             if better == costs:
                 return told
-            costs = better
-            told.append(costs[self.model.start])
+            told.append(better)
+
+    def depths(self, goal):
+        """Return for each belief the least depth of a plan from it, None if there is none."""
+        costs = self.rounds(goal, lambda belief, costs: min(NEVER, 1 + max(costs)))[-1]
+        return {belief: known(costs[belief]) for belief in costs}
 
     def least_depth(self, goal):
         """Return the least depth of a right plan, None if there is none."""
-        return known(self.rounds(goal, lambda belief, costs: min(NEVER, 1 + max(costs)))[-1])
+        return self.depths(goal)[self.model.start]
 
     def totals(self, goal):
         """Return for each depth the least total of a right plan of at most this depth, None if there is none."""
         rounds = self.rounds(goal, lambda belief, costs: min(NEVER, len(belief) + sum(costs)))
-        return [known(cost) for cost in rounds]
+        return [known(costs[self.model.start]) for costs in rounds]
 
     def least_total(self, goal):
         """Return the least total of a right plan, None if there is none."""
@@ -184,6 +188,23 @@ class Table:
 
 def known(cost):
     return None if cost == NEVER else cost
+
+
+def advised(model, depths, belief):
+    """Return the first button of a plan of the least depth from a belief, None if it has none or there is none."""
+    if depths[belief] in (None, 0):
+        return None
+    for button in model.buttons:
+        found = model.press(belief, button)
+        if found is not None and keeps(depths, found):
+            if 1 + max(depths[after] for after in found.values()) == depths[belief]:
+                return button
+    raise AssertionError("no press begins a plan")
+
+
+def keeps(depths, found):
+    """Tell whether there is a plan behind each answer."""
+    return all(depths[after] is not None for after in found.values())
 
 
 def is_closed(case, goal, told):

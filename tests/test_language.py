@@ -217,7 +217,8 @@ class CodeTest(unittest.TestCase):
                     self.assertIsInstance(side, ast.Constant, place)
 
     def test_errors(self):
-        errors = {name for name, made in own_classes().items() if made.bases}
+        errors = {
+            node.name for node in parsed(PACKAGE / "errors.py").body if isinstance(node, ast.ClassDef)}
         for place, node in nodes(ast.ExceptHandler):
             self.assertIsInstance(node.type, ast.Name, place)
             self.assertIn(node.type.id, errors | CATCHABLE, place)
@@ -252,5 +253,17 @@ class CodeTest(unittest.TestCase):
 
     def test_names_begin_with_at_most_one_underscore(self):
         for place, node in nodes((ast.Name, ast.arg, ast.Attribute)):
-            for field in ("id", "arg", "attr"):
-                self.assertFalse(getattr(node, field, "").startswith("__"), place)
+            if ast.unparse(node) != "super().__init__":
+                for field in ("id", "arg", "attr"):
+                    self.assertFalse(getattr(node, field, "").startswith("__"), place)
+
+    def test_super_calls_a_method_at_once(self):
+        for path in files():
+            tree = parsed(path)
+            called = [
+                id(node.func.value) for node in ast.walk(tree)
+                if isinstance(node, ast.Call) and isinstance(node.func, ast.Attribute)]
+            for node in ast.walk(tree):
+                if isinstance(node, ast.Call) and isinstance(node.func, ast.Name) and node.func.id == "super":
+                    self.assertIn(id(node), called, (path, node.lineno))
+                    self.assertEqual(node.args, [], (path, node.lineno))
